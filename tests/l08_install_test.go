@@ -131,50 +131,6 @@ func deedByTable(h impl.Hand) impl.Deed {
 	return d
 }
 
-func wantStep(t *testing.T, what string, p impl.Plan, a []uint64, me int64, h impl.Hand, want impl.Done, is bool) {
-	t.Helper()
-	l, was, of := lend(a), h, p
-	for range 2 {
-		got, gotIs := impl.InstallStep(p, l.list, me, h)
-		if gotIs != is {
-			t.Fatalf("%s: InstallStep(%+v, .., %d, %+v) is %v", what, p, me, h, gotIs)
-		}
-		if got.Hand != want.Hand || got.Deed != want.Deed {
-			t.Fatalf("%s: InstallStep(%+v, .., %d, %+v) has %+v, %+v, not %+v, %+v", what, p, me, h, got.Hand, got.Deed, want.Hand, want.Deed)
-		}
-		wantWords(t, what, want.Arena, got.Arena)
-		l.wantNew(t, what, got.Arena)
-	}
-	if h != was || p != of {
-		t.Fatalf("%s: InstallStep changed its arguments", what)
-	}
-}
-
-func wantWords(t *testing.T, what string, want, got []uint64) {
-	t.Helper()
-	if len(got) != len(want) {
-		t.Fatalf("%s: the answer has %d words, not %d", what, len(got), len(want))
-	}
-	for at, x := range want {
-		if got[at] != x {
-			t.Fatalf("%s: at %d the answer has %#x, not %#x", what, at, got[at], x)
-		}
-	}
-}
-
-// wantTable tells whether the table has something done.
-func wantTable(t *testing.T, what string, p impl.Plan, a []uint64, me int64, h impl.Hand) bool {
-	t.Helper()
-	want, is := stepByTable(p, a, h)
-	wantStep(t, what, p, a, me, h, want, is)
-	return is
-}
-
-func wantNoStep(t *testing.T, what string, p impl.Plan, a []uint64, me int64, h impl.Hand) {
-	t.Helper()
-	wantStep(t, what, p, a, me, h, impl.Done{}, false)
-}
-
 func withPid(x uint64, pid int64) uint64 { return x&^(255<<48) | uint64(pid)<<48 }
 
 // doableHand is right, full of numbers, and At a row that it may do.
@@ -213,11 +169,6 @@ func eachDoable(p impl.Plan, rounds uint64, f func(a []uint64, me int64, h impl.
 			f(stepArena(p, h, i), int64(seed/3)%p.Procs, h)
 		}
 	}
-}
-
-// roundsOf are fewer of a plan whose arena is long.
-func roundsOf(p impl.Plan, most uint64) uint64 {
-	return max(8, min(most, most*60/uint64(len(laidOut(p)))))
 }
 
 func TestInstallConstants(t *testing.T) {
@@ -305,8 +256,8 @@ func TestStepsOfTheUsualPlan(t *testing.T) {
 		c.then(&want.Hand)
 		what := fmt.Sprint("by hand, ", i)
 		for me := range int64(3) {
-			wantStep(t, what, usualPlan, c.a, me, h, want, true)
-			if !wantTable(t, what, usualPlan, c.a, me, h) {
+			installing.wantStep(t, what, usualPlan, c.a, me, h, want, true)
+			if !installing.wantTable(t, what, usualPlan, c.a, me, h) {
 				t.Fatalf("%s: the table tells otherwise", what)
 			}
 		}
@@ -318,7 +269,7 @@ func TestEachRow(t *testing.T) {
 	for _, p := range somePlans {
 		met := map[[2]int64]int{}
 		eachDoable(p, roundsOf(p, 400), func(a []uint64, me int64, h impl.Hand) {
-			if !wantTable(t, "a row", p, a, me, h) {
+			if !installing.wantTable(t, "a row", p, a, me, h) {
 				t.Fatalf("%+v may not do its row", h)
 			}
 			then, _ := stepByTable(p, a, h)
@@ -423,7 +374,7 @@ func TestOpeningOfEachCode(t *testing.T) {
 					h := doableHand(p, atOpen, seed*13+uint64(code))
 					h.Code, h.For, h.A = code, slot, h.A%p.Procs
 					a := stepArena(p, h, seed)
-					is := wantTable(t, "an opening", p, a, p.Procs-1-slot, h)
+					is := installing.wantTable(t, "an opening", p, a, p.Procs-1-slot, h)
 					if is != (code >= 2) {
 						t.Fatalf("the table tells %v of code %d", is, code)
 					}
@@ -438,10 +389,10 @@ func TestOpeningOfACodeWithoutARow(t *testing.T) {
 	for _, p := range somePlans {
 		for _, code := range []int64{0, 1} {
 			h := impl.Hand{Up: true, In: true, Life: 2, At: atOpen, Code: code, Last: 4}
-			wantNoStep(t, "no row", p, impl.Blank(p), 0, h)
+			installing.wantNone(t, "no row", p, impl.Blank(p), 0, h)
 			full := fullHand(p)
 			full.At, full.Code, full.Last = atOpen, code, 4
-			wantNoStep(t, "no row", p, impl.Blank(p), 0, full)
+			installing.wantNone(t, "no row", p, impl.Blank(p), 0, full)
 		}
 	}
 }
@@ -452,7 +403,7 @@ func TestOpeningTellsWhatIsAsked(t *testing.T) {
 		for code := range openings {
 			for _, n := range []int64{0, 1, p.Small + p.Large, p.Small + p.Large + 1, 255, 256, topIndex} {
 				h := impl.Hand{Up: true, Life: 2, At: atOpen, Code: code, A: n, B: topSeq, C: topIndex, Last: 76}
-				is := wantTable(t, "asked", p, impl.Blank(p), 0, h)
+				is := installing.wantTable(t, "asked", p, impl.Blank(p), 0, h)
 				if is != (code != opAdopt || n < p.Procs) {
 					t.Fatalf("the table tells %v of code %d and %d", is, code, n)
 				}
@@ -468,7 +419,7 @@ func TestGettingWithBlocksKept(t *testing.T) {
 				h := doableHand(p, atOpen, uint64(kept+code))
 				h.Code, h.Kept, h.A, h.Reply, h.Out = code, kept, 0, 2, 77
 				a := impl.Blank(p)
-				wantTable(t, "kept", p, a, 0, h)
+				installing.wantTable(t, "kept", p, a, 0, h)
 				d, _ := impl.InstallStep(p, a, 0, h)
 				refused := d.Hand.At == atSay && d.Hand.Reply == replyKeep && d.Hand.Out == 0
 				if refused != ((code == opPop || code == opDeq) && kept >= p.Keep) {
@@ -491,14 +442,14 @@ func TestOpeningOfAnAdoption(t *testing.T) {
 				h.Code, h.For, h.A, h.Mine, h.Last = opAdopt, slot, of, 3, 50
 				a := stepArena(p, h, 1)
 				if of >= p.Procs {
-					wantNoStep(t, "no slot to adopt", p, a, slot, h)
+					installing.wantNone(t, "no slot to adopt", p, a, slot, h)
 					continue
 				}
 				want := h
 				want.For, want.Mine, want.Last, want.Number, want.At = of, 51, 51, 51, atSlot
 				then := slices.Clone(a)
 				then[slot*7+1] = wordOf(opAdopt, 0, of, 51)
-				wantStep(t, "an adoption", p, a, slot, h, impl.Done{Arena: then, Hand: want}, true)
+				installing.wantStep(t, "an adoption", p, a, slot, h, impl.Done{Arena: then, Hand: want}, true)
 			}
 		}
 	}
@@ -512,7 +463,7 @@ func TestLastAtItsEnd(t *testing.T) {
 				for code := int64(2); code <= topCode; code++ {
 					h := doableHand(p, at, uint64(code))
 					h.Code, h.A, h.Last = code, h.A%p.Procs, last
-					is := wantTable(t, "Last at its end", p, stepArena(p, h, uint64(code)), 0, h)
+					is := installing.wantTable(t, "Last at its end", p, stepArena(p, h, uint64(code)), 0, h)
 					if is != (last < topSeq || at != atOpen && at != atDrop) {
 						t.Fatalf("the table tells %v of %+v", is, h)
 					}
@@ -529,7 +480,7 @@ func TestEveryReplyIsSaid(t *testing.T) {
 				h := doableHand(usualPlan, atSay, uint64(reply))
 				h.Reply, h.Out, h.Number = reply, out, number
 				a := stepArena(usualPlan, h, uint64(out))
-				wantTable(t, "said", usualPlan, a, 0, h)
+				installing.wantTable(t, "said", usualPlan, a, 0, h)
 				d, _ := impl.InstallStep(usualPlan, a, 0, h)
 				w := impl.Unpack(d.Arena[h.For*7+4])
 				if w != (impl.Word{Kind: reply, Index: out, Seq: number}) {
@@ -563,7 +514,7 @@ func TestACallToItsEnd(t *testing.T) {
 			if h != was {
 				t.Fatalf("the call ends as %+v, not %+v", h, was)
 			}
-			wantNoStep(t, "at rest", p, a, slot, h)
+			installing.wantNone(t, "at rest", p, a, slot, h)
 		}
 	}
 }
@@ -615,7 +566,7 @@ func TestNotesLessTheSameAndMore(t *testing.T) {
 						if note < seq {
 							want.Hand.At = atMark
 						}
-						wantStep(t, fmt.Sprint("a note of ", note, " to ", seq), p, a, by, h, want, true)
+						installing.wantStep(t, fmt.Sprint("a note of ", note, " to ", seq), p, a, by, h, want, true)
 					}
 				}
 			}
@@ -638,7 +589,7 @@ func TestMarkWritesTheSeqOfSeen(t *testing.T) {
 						want := impl.Done{Arena: slices.Clone(a), Hand: h}
 						want.Hand.At = atSwap
 						want.Arena[at] = seq
-						wantStep(t, fmt.Sprint("a mark of ", seq, " over ", note), p, a, by, h, want, true)
+						installing.wantStep(t, fmt.Sprint("a mark of ", seq, " over ", note), p, a, by, h, want, true)
 					}
 				}
 			}
@@ -675,7 +626,7 @@ func TestWhatIsSeenOfNoSlot(t *testing.T) {
 				for _, by := range someSlots(p) {
 					h := doableHand(p, at, uint64(pid)+uint64(at))
 					h.Seen, h.For = withPid(h.Seen, pid), by
-					is := wantTable(t, "seen of no slot", p, stepArena(p, h, uint64(at)), by, h)
+					is := installing.wantTable(t, "seen of no slot", p, stepArena(p, h, uint64(at)), by, h)
 					if is != (pid < p.Procs || at != atNote && at != atMark) {
 						t.Fatalf("the table tells %v of %+v", is, h)
 					}
@@ -699,9 +650,9 @@ func TestSwapAtEveryPlace(t *testing.T) {
 				h.Addr, h.Put = addr, put
 				a := mixedWords(n, uint64(addr)+5)
 				h.Seen = a[addr]
-				wantStep(t, "swapped", p, a, 0, h, impl.Done{Arena: withWordAt(a, addr, put), Hand: withNumber(h, "At", h.Good), Deed: deedByTable(h)}, true)
+				installing.wantStep(t, "swapped", p, a, 0, h, impl.Done{Arena: withWordAt(a, addr, put), Hand: withNumber(h, "At", h.Good), Deed: deedByTable(h)}, true)
 				h.Seen++
-				wantStep(t, "not swapped", p, a, 0, h, impl.Done{Arena: a, Hand: withNumber(h, "At", h.Bad)}, true)
+				installing.wantStep(t, "not swapped", p, a, 0, h, impl.Done{Arena: a, Hand: withNumber(h, "At", h.Bad)}, true)
 			}
 		}
 	}
@@ -720,7 +671,7 @@ func TestSwapMindsEveryBit(t *testing.T) {
 		h := impl.Hand{Up: true, Life: 1, At: atSwap, Addr: 33, Seen: wordOf(1, 2, 3, 4), Put: 9, Does: 3, Good: 2, Bad: 23}
 		a := slices.Repeat([]uint64{h.Seen}, 62)
 		a[33] ^= 1 << bit
-		wantStep(t, fmt.Sprint("bit ", bit), p, a, 0, h, impl.Done{Arena: a, Hand: withNumber(h, "At", 23)}, true)
+		installing.wantStep(t, fmt.Sprint("bit ", bit), p, a, 0, h, impl.Done{Arena: a, Hand: withNumber(h, "At", 23)}, true)
 	}
 }
 
@@ -731,7 +682,7 @@ func TestSwapForItself(t *testing.T) {
 			h := doableHand(p, atSwap, 11)
 			h.Addr, h.Seen, h.Put, h.Does = 3, x, x, 1
 			a := withWordAt(impl.Blank(p), 3, x)
-			wantStep(t, "for itself", p, a, 0, h, impl.Done{Arena: a, Hand: withNumber(h, "At", h.Good), Deed: deedByTable(h)}, true)
+			installing.wantStep(t, "for itself", p, a, 0, h, impl.Done{Arena: a, Hand: withNumber(h, "At", h.Good), Deed: deedByTable(h)}, true)
 		}
 	}
 }
@@ -762,9 +713,9 @@ func TestDeedOfEachKind(t *testing.T) {
 				}[does]
 				a := withWordAt(impl.Blank(p), 40, 17)
 				want := impl.Done{Arena: withWordAt(a, 40, 18), Hand: withNumber(h, "At", 19), Deed: deed}
-				wantStep(t, "a deed", p, a, p.Procs-1-slot, h, want, true)
+				installing.wantStep(t, "a deed", p, a, p.Procs-1-slot, h, want, true)
 				a[40]++
-				wantStep(t, "no deed", p, a, p.Procs-1-slot, h, impl.Done{Arena: a, Hand: withNumber(h, "At", 20)}, true)
+				installing.wantStep(t, "no deed", p, a, p.Procs-1-slot, h, impl.Done{Arena: a, Hand: withNumber(h, "At", 20)}, true)
 			}
 		}
 	}
@@ -793,7 +744,7 @@ func TestDeedAtItsEnds(t *testing.T) {
 			for _, h := range []impl.Hand{{Up: true, Life: 1}, fullHand(p)} {
 				for _, code := range []int64{0, 1, 2, 12, 13, 14} {
 					h.At, h.Does, h.Code = atSwap, does, code
-					wantTable(t, "at its ends", p, withWordAt(impl.Blank(p), h.Addr, h.Seen), 0, h)
+					installing.wantTable(t, "at its ends", p, withWordAt(impl.Blank(p), h.Addr, h.Seen), 0, h)
 				}
 			}
 		}
@@ -820,75 +771,6 @@ func TestGoodAndBadAtEveryAt(t *testing.T) {
 	}
 }
 
-// It is For whose words are written, whoever does it.
-func TestForAnotherSlot(t *testing.T) {
-	for _, p := range []impl.Plan{usualPlan, noLarge, mostPlan} {
-		for at := int64(atOpen); at <= atSwap; at++ {
-			for _, slot := range someSlots(p) {
-				h := doableHand(p, at, uint64(at*7+slot))
-				h.For = slot
-				a := stepArena(p, h, uint64(slot)+1)
-				for _, me := range someSlots(p) {
-					wantTable(t, "for another", p, a, me, h)
-				}
-			}
-		}
-	}
-}
-
-// One field at a time is another one: it is carried on, and changes what its row names and no more.
-func TestFieldsOneAtATime(t *testing.T) {
-	p := usualPlan
-	for at := int64(atOpen); at <= atSwap; at++ {
-		h := impl.Hand{Up: true, Life: 2, At: at, Code: impl.OpPush, Last: 4, Seen: wordOf(0, 1, 2, 3), Addr: 33}
-		for _, a := range [][]uint64{impl.Blank(p), slices.Repeat([]uint64{h.Seen}, 62), make([]uint64, 62), mixedWords(62, 9)} {
-			for _, f := range handNumbers {
-				for _, n := range []int64{0, 1, 2, f.most(p) / 2, f.most(p) - 1, f.most(p)} {
-					one := withNumber(h, f.name, n)
-					if f.name != "At" && impl.HandOk(p, one) {
-						wantTable(t, f.name, p, a, 1, one)
-					}
-				}
-			}
-			for _, name := range handWords {
-				for _, x := range []uint64{0, 1, 1 << 32, 1 << 49, math.MaxUint64} {
-					wantTable(t, name, p, a, 1, withWord(h, name, x))
-				}
-			}
-			for _, name := range []string{"In", "Sure", "Known"} {
-				wantTable(t, name, p, a, 1, withFlag(h, name, true))
-			}
-		}
-	}
-}
-
-// Any right hands over any words: as the table has it, where something is done and where nothing is.
-func TestMixedSteps(t *testing.T) {
-	done, not := 0, 0
-	for _, p := range somePlans {
-		for seed := range roundsOf(p, 2000) {
-			h := mixedRightHand(p, seed*3+1)
-			h.At = 1 + int64(seed%8)
-			if wantTable(t, "mixed", p, stepArena(p, h, seed/8), int64(seed)%p.Procs, h) {
-				done++
-			} else {
-				not++
-			}
-		}
-		for at := int64(atOpen); at <= atSwap; at++ {
-			for name, a := range someArenas(p) {
-				for _, h := range upHands(p) {
-					h.At = at
-					wantTable(t, name, p, a, 0, h)
-				}
-			}
-		}
-	}
-	if done < 1000 || not < 100 {
-		t.Fatalf("%d were done, %d were not", done, not)
-	}
-}
-
 func TestStepsAtEveryPlan(t *testing.T) {
 	eachRightPlan(func(p impl.Plan) {
 		size := len(laidOut(p))
@@ -910,175 +792,4 @@ func TestStepsAtEveryPlan(t *testing.T) {
 			}
 		}
 	})
-}
-
-// asManyWords is how long an arena of a plan would be if the plan's limits were not asked for.
-func asManyWords(p impl.Plan) int {
-	for _, l := range planLimits {
-		if n := *l.at(&p); n < -100 || n > 300 {
-			return 0
-		}
-	}
-	return int(max(0, 7*p.Procs+p.Procs*p.Procs+5+p.Cells+3*p.Small+5*p.Large))
-}
-
-func TestNoStepOfWrongPlans(t *testing.T) {
-	lengths := []int{0, len(laidOut(usualPlan))}
-	eachWrongPlan(func(name string, p impl.Plan) {
-		for _, n := range append(lengths, asManyWords(p)) {
-			a := make([]uint64, n)
-			for at := int64(atOpen); at <= atSwap; at++ {
-				h := impl.Hand{Up: true, Life: 1, At: at, Code: impl.OpPush}
-				if d, is := impl.InstallStep(p, a, 0, h); is || !isZeroDone(d) {
-					t.Fatalf("%s: InstallStep(%+v, %d words, 0, %+v) is %v", name, p, n, h, is)
-				}
-			}
-		}
-	})
-}
-
-func isZeroDone(d impl.Done) bool {
-	return len(d.Arena) == 0 && d.Hand == (impl.Hand{}) && d.Deed == (impl.Deed{})
-}
-
-// The room behind a list that is too short has words as well: they are none of the arena's.
-func TestNoStepOverWhatIsNoArena(t *testing.T) {
-	for _, p := range somePlans {
-		size := len(laidOut(p))
-		lengths := []int{0, 1, size / 2, size - 1, size + 1, size + 2, size + 64, 2 * size}
-		for at := int64(atOpen); at <= atSwap; at++ {
-			for i, n := range lengths {
-				h := doableHand(p, at, uint64(at)+uint64(i))
-				h.Addr = 0
-				wantNoStep(t, "no arena", p, mixedWords(n, uint64(n)), 0, h)
-				wantNoStep(t, "no arena", p, slices.Repeat([]uint64{h.Seen}, n), 0, h)
-			}
-			h := doableHand(p, at, uint64(at))
-			h.Addr = 0
-			if d, is := impl.InstallStep(p, nil, 0, h); is || !isZeroDone(d) {
-				t.Fatalf("InstallStep(%+v, nil, 0, %+v) is %v", p, h, is)
-			}
-		}
-	}
-}
-
-func TestNoStepOverAnotherPlansArena(t *testing.T) {
-	for _, p := range somePlans {
-		for _, other := range somePlans {
-			if len(laidOut(p)) == len(laidOut(other)) {
-				continue
-			}
-			for at := int64(atOpen); at <= atSwap; at++ {
-				h := impl.Hand{Up: true, Life: 1, At: at, Code: impl.OpPush}
-				wantNoStep(t, "another plan's", p, impl.Blank(other), 0, h)
-			}
-		}
-	}
-}
-
-func TestNoStepOfNoSlot(t *testing.T) {
-	for _, p := range somePlans {
-		for at := int64(atOpen); at <= atSwap; at++ {
-			h := doableHand(p, at, uint64(at))
-			a := stepArena(p, h, 1)
-			for _, me := range append([]int64{-1, p.Procs, p.Procs + 1, -p.Procs, 255, 256}, nowhere...) {
-				if d, is := impl.InstallStep(p, a, me, h); is || !isZeroDone(d) {
-					t.Fatalf("InstallStep(%+v, .., %d, %+v) is %v", p, me, h, is)
-				}
-			}
-			wantTable(t, "a slot", p, a, 0, h)
-			wantTable(t, "a slot", p, a, p.Procs-1, h)
-		}
-	}
-}
-
-// One number of the hand at a time is out of its range, though its row may have no use for it.
-func TestNoStepByWrongHands(t *testing.T) {
-	for _, p := range somePlans {
-		for at := int64(atOpen); at <= atSwap; at++ {
-			right := doableHand(p, at, uint64(at)*3)
-			a := stepArena(p, right, 2)
-			for _, f := range handNumbers {
-				for _, n := range append([]int64{-1, f.most(p) + 1}, farOut...) {
-					h := withNumber(right, f.name, n)
-					if d, is := impl.InstallStep(p, a, 0, h); is || !isZeroDone(d) {
-						t.Fatalf("%s: InstallStep(%+v, .., 0, %+v) is %v", f.name, p, h, is)
-					}
-				}
-			}
-			wantNoStep(t, "no life", p, a, 0, withNumber(right, "Life", 0))
-			wantTable(t, "a right hand", p, a, 0, right)
-		}
-	}
-}
-
-// One that is not Up knows nothing, and is At none of the chapter's; one that is not Up and yet is At one is not right.
-func TestNoStepByWhoIsNotUp(t *testing.T) {
-	for _, p := range somePlans {
-		for _, life := range []int64{0, 1, topLife} {
-			wantNoStep(t, "not Up", p, impl.Blank(p), 0, impl.Hand{Life: life})
-		}
-		for at := int64(atOpen); at <= atSwap; at++ {
-			right := doableHand(p, at, uint64(at)*5)
-			a := stepArena(p, right, 2)
-			wantNoStep(t, "not Up", p, a, 0, withFlag(right, "Up", false))
-			wantNoStep(t, "not Up", p, a, 0, impl.Hand{Life: 1, At: at, Code: impl.OpPush})
-			wantNoStep(t, "downed", p, a, 0, impl.Downed(right))
-		}
-	}
-}
-
-func TestNoStepAtAnotherChapters(t *testing.T) {
-	for _, p := range somePlans {
-		for at := int64(0); at <= topAt; at++ {
-			if at >= atOpen && at <= atSwap {
-				continue
-			}
-			h := doableHand(p, at, uint64(at))
-			wantHand(t, "another chapter's", p, h, true)
-			wantNoStep(t, "another chapter's", p, stepArena(p, h, 2), 0, h)
-			wantNoStep(t, "another chapter's", p, impl.Blank(p), 0, impl.Hand{Up: true, Life: 1, At: at, Code: impl.OpPush})
-		}
-	}
-}
-
-// All wrong things together, in every choice of them: the answer is the same one, and only where none is chosen something is done.
-func TestNoStepWithMoreThanOneWrong(t *testing.T) {
-	for at := int64(atOpen); at <= atSwap; at++ {
-		right := doableHand(usualPlan, at, uint64(at)*9)
-		for chosen := range 1 << 8 {
-			is := func(i int) bool { return chosen>>i&1 == 1 }
-			p, a, me, h := usualPlan, stepArena(usualPlan, right, 2), int64(1), right
-			if is(0) {
-				p.Keep = 33
-			}
-			if is(1) {
-				a = a[:len(a)-1]
-			}
-			if is(2) {
-				me = 3
-			}
-			if is(3) {
-				h.Out = -1
-			}
-			if is(4) {
-				h.Up = false
-			}
-			if is(5) {
-				h.At = 9
-			}
-			if is(6) {
-				a = append(slices.Clone(a), 1, 2)
-			}
-			if is(7) {
-				me -= 2
-				me = min(me, -1)
-			}
-			if chosen == 0 {
-				wantTable(t, "none is wrong", p, a, me, h)
-			} else {
-				wantNoStep(t, fmt.Sprintf("wrong are %08b", chosen), p, a, me, h)
-			}
-		}
-	}
 }
