@@ -23,13 +23,28 @@ func wordOf(kind, pid, index, seq int64) uint64 {
 
 // headPlaces has, at block less 1, where that block's head lies; guardPlaces has where a slot's two guards lie.
 func headPlaces(p impl.Plan) []int {
-	var at []int
-	for i, r := range laidOut(p) {
-		if r.Kind == 4 && r.Field == 0 {
-			at = append(at, i)
+	at := make([]int, p.Small+p.Large)
+	next := int(7*p.Procs + p.Procs*p.Procs + 5 + p.Cells)
+	for i := range at {
+		at[i] = next
+		next += 3
+		if int64(i) >= p.Small {
+			next += 2
 		}
 	}
 	return at
+}
+
+// The heads are asked for so often that they are not looked for in the whole order; they must lie there all the same.
+func TestHeadPlacesAreThoseLaidOut(t *testing.T) {
+	eachRightPlan(func(p impl.Plan) {
+		heads := headPlaces(p)
+		for at, r := range laidOut(p) {
+			if r.Kind == 4 && r.Field == 0 && heads[r.Item-1] != at {
+				t.Fatalf("the head of block %d of %+v is taken to lie at %d, not at %d", r.Item, p, heads[r.Item-1], at)
+			}
+		}
+	})
 }
 
 func guardPlaces(slot int64) [2]int { return [2]int{int(slot)*7 + 5, int(slot)*7 + 6} }

@@ -779,113 +779,8 @@ func TestPoolStepsAtEveryPlan(t *testing.T) {
 	})
 }
 
-// A pooler is a process that has its slot, over an arena that nobody else steps on.
-type pooler struct {
-	yard
-	slot  int64
-	h     impl.Hand
-	deeds []impl.Deed
-}
-
-func (y yard) copied() yard { return yard{y.p, y.heads, slices.Clone(y.words)} }
-
-func poolerOf(p impl.Plan, slot int64, a []uint64, last int64) pooler {
-	return pooler{yard: yardOf(p, a), slot: slot, h: impl.Hand{Up: true, In: true, Life: 1, Last: last}}
-}
-
-// begin calls what is asked.
-func (x *pooler) begin(t *testing.T, code, a, b, c int64) {
-	t.Helper()
-	h, k := impl.Called(x.p, x.slot, x.h, code, a, b, c)
-	if k != codeOk {
-		t.Fatalf("%d, %d, %d, %d is not called by %+v: %d", code, a, b, c, x.h, k)
-	}
-	x.h, x.deeds = h, nil
-}
-
-// step does the next thing, be it to install or in the pool.
-func (x *pooler) step(t *testing.T) {
-	t.Helper()
-	c := installing
-	if x.h.At > atSwap {
-		c = pooling
-	}
-	was, lent := slices.Clone(x.words), x.words
-	d, is := c.step(x.p, lent, x.slot, x.h)
-	if !is {
-		t.Fatalf("%s(%+v, %#x, %d, %+v) is false", c.name, x.p, x.words, x.slot, x.h)
-	}
-	if !slices.Equal(was, lent) {
-		t.Fatalf("%s by %+v wrote into its argument", c.name, x.h)
-	}
-	written := 0
-	for at, w := range d.Arena {
-		if w != was[at] {
-			written++
-		}
-	}
-	if written > 1 {
-		t.Fatalf("%s by %+v wrote %d words", c.name, x.h, written)
-	}
-	x.wantSwapAhead(t, d)
-	if d.Deed != (impl.Deed{}) {
-		x.deeds = append(x.deeds, d.Deed)
-	}
-	x.words, x.h = d.Arena, d.Hand
-}
-
-// wantSwapAhead holds what must stand ahead of a swap that is told by a deed: what is intended bears the number that is put, and what is given back has a head that says free, and is linked to what was in the root.
-func (x *pooler) wantSwapAhead(t *testing.T, d impl.Done) {
-	t.Helper()
-	if d.Deed == (impl.Deed{}) {
-		return
-	}
-	at, block := x.h.Addr, d.Deed.Item
-	intent, put := impl.Unpack(x.words[slotPlace(x.slot, 2)]), impl.Unpack(d.Arena[at])
-	if intent != (impl.Word{Kind: d.Deed.Kind, Index: block, Seq: put.Seq}) || put.Pid != x.slot || put.Kind != 0 || put.Seq != x.h.Last {
-		t.Fatalf("%+v was intended, and %+v is put, for %+v", intent, put, d.Deed)
-	}
-	link, behind, ahead := x.index(x.linkPlace(block)), put.Index, x.index(int(at))
-	if d.Deed.Kind == deedGive {
-		behind, ahead = ahead, behind
-	}
-	if link != behind || ahead != block {
-		t.Fatalf("%+v: from %d to %d, and block %d is linked to %d", d.Deed, x.index(int(at)), put.Index, block, link)
-	}
-	if head := x.words[x.heads[block-1]]; d.Deed.Kind == deedGive && head != 0 {
-		t.Fatalf("block %d is given back, and its head is %#x", block, head)
-	}
-}
-
-// rest steps till the call is over, and then is at rest.
-func (x *pooler) rest(t *testing.T) (reply, out int64) {
-	t.Helper()
-	for steps := 0; x.h.At != 0; steps++ {
-		if steps > 40 {
-			t.Fatalf("%+v does not come to its end", x.h)
-		}
-		x.step(t)
-	}
-	reply, out = x.h.Reply, x.h.Out
-	x.h = impl.Resting(x.h)
-	return reply, out
-}
-
-func (x *pooler) call(t *testing.T, code, a, b, c int64) (reply, out int64) {
-	t.Helper()
-	x.begin(t, code, a, b, c)
-	return x.rest(t)
-}
-
-func (x *pooler) wantTold(t *testing.T, reply, out, wantReply, wantOut int64) {
-	t.Helper()
-	if reply != wantReply || out != wantOut {
-		t.Fatalf("slot %d of %+v is told %d, %d, not %d, %d", x.slot, x.p, reply, out, wantReply, wantOut)
-	}
-}
-
 // free are the blocks of a class that are to be taken, in order; TakeableIn must tell how many.
-func (x *pooler) free(t *testing.T, class int64) []int64 {
+func (x *process) free(t *testing.T, class int64) []int64 {
 	t.Helper()
 	blocks, whole := x.walked(int(class))
 	if n := impl.TakeableIn(x.p, x.words, class); !whole || n != int64(len(blocks)) {
@@ -899,25 +794,8 @@ func (x *pooler) free(t *testing.T, class int64) []int64 {
 	return blocks
 }
 
-// opened writes what every call leaves in its slot: what was asked and told, that nothing is intended any more, and no guards.
-func opened(words []uint64, slot, code, a, last, numbers, reply, out int64) {
-	words[slotPlace(slot, 1)] = wordOf(code, 0, a, last+1)
-	words[slotPlace(slot, 2)] = uint64(last + numbers)
-	words[slotPlace(slot, 4)] = wordOf(reply, 0, out, last+1)
-	words[slotPlace(slot, 5)], words[slotPlace(slot, 6)] = 0, 0
-}
-
-// swapped writes what a swap of a root leaves: the note about who was there, and what is put.
-func (y yard) swapped(slot int64, root int, index, number int64) {
-	at := y.rootPlace(root)
-	seen := y.words[at]
-	note := notePlace(y.p, int64(seen>>48&255), slot)
-	y.words[note] = max(y.words[note], seen&topSeq)
-	y.words[at] = wordOf(0, slot, index, number)
-}
-
 // take takes a block, alone, and holds every word that is then.
-func (x *pooler) take(t *testing.T, class int64) int64 {
+func (x *process) take(t *testing.T, class int64) int64 {
 	t.Helper()
 	then, last, free := x.copied(), x.h.Last, x.free(t, class)
 	reply, out := x.call(t, opAlloc, class, 0, 0)
@@ -939,7 +817,7 @@ func (x *pooler) take(t *testing.T, class int64) int64 {
 }
 
 // give gives a block back, alone, likewise.
-func (x *pooler) give(t *testing.T, block int64) {
+func (x *process) give(t *testing.T, block int64) {
 	t.Helper()
 	class := 0
 	if block > x.p.Small {
@@ -958,14 +836,6 @@ func (x *pooler) give(t *testing.T, block int64) {
 	}
 }
 
-func (x *pooler) wantEnd(t *testing.T, what string, words []uint64, last int64, deeds []impl.Deed) {
-	t.Helper()
-	wantWords(t, what, words, x.words)
-	if x.h.Last != last || x.h.At != 0 || !slices.Equal(x.deeds, deeds) {
-		t.Fatalf("%s: %+v, and the deeds are %+v, not %+v", what, x.h, x.deeds, deeds)
-	}
-}
-
 // Promise 9: as many are to be taken as were ahead, and the same one is taken again; every slot, each class, down to the last block.
 func TestWhoTakesAndGivesBackAlone(t *testing.T) {
 	for _, p := range somePlans {
@@ -975,7 +845,7 @@ func TestWhoTakesAndGivesBackAlone(t *testing.T) {
 		}
 		for _, slot := range slots {
 			for class := range int64(2) {
-				x := poolerOf(p, slot, impl.Blank(p), 4)
+				x := processOf(p, slot, impl.Blank(p), 4)
 				for {
 					ahead, other := x.free(t, class), x.free(t, 1-class)
 					block := x.take(t, class)
@@ -1000,7 +870,7 @@ func TestWhoTakesAndGivesBackAlone(t *testing.T) {
 }
 
 // wantAllTaken holds all of a class by the slot, and has it give them back in a mixed order: they are taken again the last one first.
-func wantAllTaken(t *testing.T, x *pooler, class int64) {
+func wantAllTaken(t *testing.T, x *process, class int64) {
 	t.Helper()
 	all := rising(2, x.p.Small)
 	if class == 1 {
@@ -1035,13 +905,13 @@ func TestWhatOneGivesBackAnotherTakes(t *testing.T) {
 			a := impl.Blank(p)
 			for round := range int64(3) {
 				for _, slot := range someSlots(p) {
-					x := poolerOf(p, slot, a, 100*round+slot*7)
+					x := processOf(p, slot, a, 100*round+slot*7)
 					block := x.take(t, class)
 					x.give(t, block)
 					a = x.words
 				}
 			}
-			first, second := poolerOf(p, 0, a, 900), poolerOf(p, 1, a, 60)
+			first, second := processOf(p, 0, a, 900), processOf(p, 1, a, 60)
 			block := first.take(t, class)
 			second.yard = first.yard
 			if other := second.take(t, class); other == block || other == 0 && len(second.free(t, class)) > 0 {
@@ -1056,7 +926,7 @@ func TestBlocksOfOthersStay(t *testing.T) {
 	for _, p := range []impl.Plan{usualPlan, noLarge, mostPlan} {
 		for _, head := range []uint64{wordOf(kindFree, 1, 0, 0), wordOf(kindHeld, 0, 0, 0), wordOf(kindNode, 1, 0, 0), wordOf(kindRetired, 1, 0, 0)} {
 			for _, block := range []int64{1, 2, p.Small} {
-				x := poolerOf(p, 1, impl.Blank(p), 30)
+				x := processOf(p, 1, impl.Blank(p), 30)
 				x.words[x.heads[block-1]] = head
 				for _, code := range []int64{opFree, opWrite, opLoad} {
 					then, last := slices.Clone(x.words), x.h.Last
@@ -1074,7 +944,7 @@ func TestBlocksOfOthersStay(t *testing.T) {
 func TestWhatIsWrittenIsRead(t *testing.T) {
 	for _, p := range somePlans {
 		for _, slot := range someSlots(p) {
-			x := poolerOf(p, slot, impl.Blank(p), 4)
+			x := processOf(p, slot, impl.Blank(p), 4)
 			for class := range int64(2) {
 				block := x.take(t, class)
 				if block == 0 {
@@ -1096,7 +966,7 @@ func TestWhatIsWrittenIsRead(t *testing.T) {
 	}
 }
 
-func (x *pooler) wantWritten(t *testing.T, block, which, value int64) {
+func (x *process) wantWritten(t *testing.T, block, which, value int64) {
 	t.Helper()
 	then, last := slices.Clone(x.words), x.h.Last
 	reply, out := x.call(t, opWrite, block, which, value)
@@ -1114,7 +984,7 @@ func (x *pooler) wantWritten(t *testing.T, block, which, value int64) {
 func TestABlockForAValue(t *testing.T) {
 	for _, p := range somePlans {
 		for _, code := range []int64{opPush, impl.OpEnq} {
-			x := poolerOf(p, p.Procs-1, impl.Blank(p), 4)
+			x := processOf(p, p.Procs-1, impl.Blank(p), 4)
 			free := x.free(t, 0)
 			for i, block := range free {
 				then, last := x.copied(), x.h.Last
@@ -1139,93 +1009,6 @@ func TestABlockForAValue(t *testing.T) {
 	}
 }
 
-// A task is a call; it may hang on what the calls ahead of it were told.
-type task func(told []int64) (code, a int64)
-
-func toTake(class int64) task {
-	return func([]int64) (code, a int64) { return opAlloc, class }
-}
-
-// toGive gives back what was taken by the call of that number.
-func toGive(call int) task {
-	return func(told []int64) (code, a int64) { return opFree, told[call] }
-}
-
-// A member of a crowd: its hand, and what it was told of each call that is over.
-type member struct {
-	h    impl.Hand
-	told []int64
-}
-
-type crowd struct {
-	words []uint64
-	all   []member
-}
-
-// moved is the crowd when that one has done one thing more; false where it has nothing to do.
-func (c crowd) moved(t *testing.T, y yard, tasks [][]task, who int) (crowd, bool) {
-	t.Helper()
-	x := pooler{yard: yard{y.p, y.heads, c.words}, slot: int64(who), h: c.all[who].h}
-	told := c.all[who].told
-	switch {
-	case x.h.At != 0:
-		x.step(t)
-	case len(told) == len(tasks[who]):
-		return c, false
-	default:
-		code, a := tasks[who][len(told)](told)
-		x.begin(t, code, a, 0, 0)
-	}
-	if x.h.At == 0 {
-		told = append(slices.Clone(told), x.h.Out)
-		x.h = impl.Resting(x.h)
-	}
-	then := crowd{x.words, slices.Clone(c.all)}
-	then.all[who] = member{x.h, told}
-	return then, true
-}
-
-// owned are the blocks that each was told to have taken, and has not begun to give back.
-func (c crowd) owned(tasks [][]task) []int64 {
-	var out []int64
-	for who, m := range c.all {
-		mine := map[int64]bool{}
-		for i, ask := range tasks[who] {
-			over := i < len(m.told)
-			if !over && (i > len(m.told) || m.h.At == 0) {
-				break
-			}
-			switch code, a := ask(m.told); {
-			case code == opFree:
-				delete(mine, a)
-			case over && m.told[i] != 0:
-				mine[m.told[i]] = true
-			}
-		}
-		out = slices.AppendSeq(out, maps.Keys(mine))
-	}
-	return out
-}
-
-// wantOrder holds at any moment: no walk is broken, what is to be taken says that it is free, and what is owned is not to be taken, and nobody else's.
-func (c crowd) wantOrder(t *testing.T, y yard, tasks [][]task) {
-	t.Helper()
-	x := pooler{yard: yard{y.p, y.heads, c.words}}
-	free, owned := append(slices.Clone(x.free(t, 0)), x.free(t, 1)...), c.owned(tasks)
-	both := slices.Concat(free, owned)
-	slices.Sort(both)
-	if len(slices.Compact(slices.Clone(both))) != len(both) {
-		t.Fatalf("%v are to be taken and %v are owned, of %+v", free, owned, c.all)
-	}
-	over := true
-	for who, m := range c.all {
-		over = over && m.h.At == 0 && len(m.told) == len(tasks[who])
-	}
-	if over && !slices.Equal(both, rising(2, y.blocks())) {
-		t.Fatalf("all is over, %v are to be taken and %v are owned", free, owned)
-	}
-}
-
 // Every way in which the steps of a few can fall: no block is taken by two, none is lost, and whoever goes on alone comes to its end.
 func TestEveryWayOfAFew(t *testing.T) {
 	take, large := toTake(0), toTake(1)
@@ -1241,39 +1024,11 @@ func TestEveryWayOfAFew(t *testing.T) {
 		{impl.Plan{Procs: 2, Small: 3, Large: 2, Cells: 1, Keep: 2}, [][]task{{large, toGive(0)}, {take, toGive(0), take}}},
 		{impl.Plan{Procs: 3, Small: 4, Large: 0, Cells: 1, Keep: 2}, [][]task{{take}, {take}, {take}}},
 	} {
-		begin := crowd{words: impl.Blank(c.p)}
-		for range c.tasks {
-			begin.all = append(begin.all, member{h: impl.Hand{Up: true, In: true, Life: 1}})
-		}
-		if n := wantEveryWay(t, yardOf(c.p, begin.words), begin, c.tasks); n < 400 {
+		y := yardOf(c.p, impl.Blank(c.p))
+		if n := wantEveryWay(t, y, crowdOf(y, c.tasks), c.tasks); n < 400 {
 			t.Fatalf("few %d: %d moments", i, n)
 		}
 	}
-}
-
-func wantEveryWay(t *testing.T, y yard, begin crowd, tasks [][]task) int {
-	t.Helper()
-	met, left := map[string]bool{}, []crowd{begin}
-	for len(left) > 0 {
-		c := left[len(left)-1]
-		left = left[:len(left)-1]
-		key := fmt.Sprint(c)
-		if met[key] {
-			continue
-		}
-		met[key] = true
-		c.wantOrder(t, y, tasks)
-		for who := range c.all {
-			if len(met)%16 == 0 {
-				x := pooler{yard: yard{y.p, y.heads, c.words}, slot: int64(who), h: c.all[who].h}
-				x.rest(t)
-			}
-			if then, is := c.moved(t, y, tasks, who); is {
-				left = append(left, then)
-			}
-		}
-	}
-	return len(met)
 }
 
 // Many of them in a mixed order, for long: what each holds stays its own, with what it wrote into it, and when all is given back nothing is lost.
@@ -1314,7 +1069,7 @@ type holder struct {
 // goOn does the next thing; where it is at rest it calls what the turn says, of what it has.
 func (x *holder) goOn(t *testing.T, y yard, slot int64, turn uint64) []uint64 {
 	t.Helper()
-	one := pooler{yard: y, slot: slot, h: x.h}
+	one := process{yard: y, slot: slot, h: x.h}
 	if x.h.At != 0 {
 		one.step(t)
 		if x.h = one.h; x.h.At == 0 {
@@ -1364,7 +1119,7 @@ func (x *holder) told(t *testing.T) {
 // end ends the call, and gives back all that it has.
 func (x *holder) end(t *testing.T, y yard, slot int64) []uint64 {
 	t.Helper()
-	one := pooler{yard: y, slot: slot, h: x.h}
+	one := process{yard: y, slot: slot, h: x.h}
 	if x.h.At != 0 {
 		for one.h.At != 0 {
 			one.step(t)

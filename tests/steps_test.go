@@ -24,7 +24,8 @@ type chapter struct {
 var (
 	installing = chapter{"InstallStep", atOpen, atSwap, impl.InstallStep, stepByTable, doableHand, stepArena}
 	pooling    = chapter{"PoolStep", atFree, atChain, impl.PoolStep, poolByTable, poolHand, poolArena}
-	chapters   = []chapter{installing, pooling}
+	stacking   = chapter{"StackStep", atAim, atRetire, impl.StackStep, stackByTable, stackHand, stackArena}
+	chapters   = []chapter{installing, pooling, stacking}
 )
 
 func (c chapter) wantStep(t *testing.T, what string, p impl.Plan, a []uint64, me int64, h impl.Hand, want impl.Done, is bool) {
