@@ -663,6 +663,7 @@ func wantStoreAndFetch(t *testing.T, p impl.Plan, block, which, value int64) {
 
 // By the code, and where it is no code of the pool's own by the Index, what is behind the swap; Reply and Out are told of OpFree alone.
 func TestChainByEachCode(t *testing.T) {
+	t.Parallel()
 	for _, p := range somePlans {
 		for _, block := range someBlocks(p) {
 			for code := range int64(topCode + 1) {
@@ -735,6 +736,7 @@ func TestTheClassOfTheBlockAndTheClassAsked(t *testing.T) {
 
 // Block 0, the last block, and one more: who takes the place of a word of a block that there isn't does nothing; who only intends one does.
 func TestPoolOfBlocksThatThereAreNot(t *testing.T) {
+	t.Parallel()
 	intends := []int64{atFree, atWant, atMine, atYield}
 	for _, p := range somePlans {
 		last := p.Small + p.Large
@@ -757,6 +759,7 @@ func TestPoolOfBlocksThatThereAreNot(t *testing.T) {
 }
 
 func TestPoolStepsAtEveryPlan(t *testing.T) {
+	t.Parallel()
 	eachRightPlan(func(p impl.Plan) {
 		last := p.Small + p.Large
 		for at := int64(atFree); at <= atChain; at++ {
@@ -838,6 +841,7 @@ func (x *process) give(t *testing.T, block int64) {
 
 // Promise 9: as many are to be taken as were ahead, and the same one is taken again; every slot, each class, down to the last block.
 func TestWhoTakesAndGivesBackAlone(t *testing.T) {
+	t.Parallel()
 	for _, p := range somePlans {
 		slots := someSlots(p)
 		if len(laidOut(p)) > 1000 {
@@ -1011,6 +1015,7 @@ func TestABlockForAValue(t *testing.T) {
 
 // Every way in which the steps of a few can fall: no block is taken by two, none is lost, and whoever goes on alone comes to its end.
 func TestEveryWayOfAFew(t *testing.T) {
+	t.Parallel()
 	take, large := toTake(0), toTake(1)
 	for i, c := range []struct {
 		p     impl.Plan
@@ -1033,6 +1038,7 @@ func TestEveryWayOfAFew(t *testing.T) {
 
 // Many of them in a mixed order, for long: what each holds stays its own, with what it wrote into it, and when all is given back nothing is lost.
 func TestManyInAMixedOrder(t *testing.T) {
+	t.Parallel()
 	for _, p := range []impl.Plan{usualPlan, noLarge, {Procs: 6, Small: 9, Large: 4, Cells: 1, Keep: 2}} {
 		for seed := range uint64(6) {
 			y := yardOf(p, impl.Blank(p))

@@ -351,6 +351,7 @@ func aroundTop(p impl.Plan, top, beside uint64) yard {
 
 // Whatever is on top is seen; it is asked for its Index by who peeks, and by nobody whether it is a block.
 func TestTopAndPeekAtEachTop(t *testing.T) {
+	t.Parallel()
 	for _, p := range somePlans {
 		for _, top := range topsOf(p) {
 			for _, beside := range []uint64{0, math.MaxUint64} {
@@ -566,6 +567,7 @@ func TestStackWithLastAtItsEnd(t *testing.T) {
 
 // Block and From, each by itself: 0, the last block, and one more. Who takes the place of a word of a block that there isn't does nothing; who only tells of one does.
 func TestStackOfBlocksThatThereAreNot(t *testing.T) {
+	t.Parallel()
 	byBlock := []int64{atNode, atJoin, atNext, atRetire}
 	for _, p := range somePlans {
 		last := p.Small + p.Large
@@ -588,6 +590,7 @@ func TestStackOfBlocksThatThereAreNot(t *testing.T) {
 }
 
 func TestStackStepsAtEveryPlan(t *testing.T) {
+	t.Parallel()
 	eachRightPlan(func(p impl.Plan) {
 		last := p.Small + p.Large
 		a := slices.Repeat([]uint64{wordOf(kindNode, p.Procs-1, last, 5)}, len(laidOut(p)))
@@ -701,6 +704,7 @@ func (x *process) makeRoom(t *testing.T) {
 
 // Promise 10: the value is got, and the stack is as it was, be it empty or as deep as can be; every slot.
 func TestWhoPushesAndPopsAlone(t *testing.T) {
+	t.Parallel()
 	for _, p := range somePlans {
 		slots := someSlots(p)
 		if len(laidOut(p)) > 1000 {
@@ -909,6 +913,7 @@ func TestWhoIsOvertakenBehindTheSecondLook(t *testing.T) {
 
 // Every way in which the steps of two or three can fall: the stack is as the deeds have it at each moment, nothing is lost, and nobody is about to read from a block that is free.
 func TestEveryWayAtTheStack(t *testing.T) {
+	t.Parallel()
 	push, more, pop, scan := toCall(opPush, 0, 7), toCall(opPush, 0, 8), toCall(opPop), toCall(opScan)
 	two := impl.Plan{Procs: 2, Small: 4, Large: 0, Cells: 1, Keep: 2}
 	for i, c := range []struct {
@@ -937,55 +942,13 @@ func TestEveryWayAtTheStack(t *testing.T) {
 
 // Many of them in a mixed order, for long; some take blocks and give them back beside it.
 func TestManyAtTheStack(t *testing.T) {
+	t.Parallel()
 	for _, p := range []impl.Plan{usualPlan, noLarge, {Procs: 6, Small: 9, Large: 2, Cells: 1, Keep: 3}} {
 		for seed := range uint64(6) {
-			y := yardOf(p, impl.Blank(p))
-			tasks := mixedTasks(p, seed)
-			c := crowdOf(y, tasks)
-			moments := 0
-			for i := 0; ; i++ {
-				turns := mixedWords(64, seed*1000+uint64(i))
-				moved := false
-				for _, turn := range turns {
-					then, is := c.moved(t, y, tasks, int(turn>>7%uint64(p.Procs)))
-					if !is {
-						continue
-					}
-					c, moved = then, true
-					moments++
-					c.wantOrder(t, y, tasks)
-				}
-				if !moved {
-					break
-				}
-			}
-			for who, m := range c.all {
-				if len(m.told) != len(tasks[who]) || m.h.At != 0 {
-					t.Fatalf("%+v: slot %d is not at its end", p, who)
-				}
-			}
-			if moments < 500*int(p.Procs) {
-				t.Fatalf("%+v: %d moments", p, moments)
+			tasks := mixedTasks(p, seed, opPush, opPush, opPop, opPop, opScan)
+			if n := wantMany(t, yardOf(p, impl.Blank(p)), tasks, seed); n < 500*int(p.Procs) {
+				t.Fatalf("%+v: %d moments", p, n)
 			}
 		}
 	}
-}
-
-// mixedTasks are of each slot as many calls; a block that is taken is given back a few calls behind.
-func mixedTasks(p impl.Plan, seed uint64) [][]task {
-	out := make([][]task, p.Procs)
-	for slot := range out {
-		for i, w := range mixedWords(60, seed*77+uint64(slot)) {
-			value := int64(w >> 20 & topIndex)
-			switch {
-			case i%12 == 2:
-				out[slot] = append(out[slot], toTake(int64(w>>9%2)))
-			case i%12 == 7:
-				out[slot] = append(out[slot], toGive(i-5))
-			default:
-				out[slot] = append(out[slot], []task{toCall(opPush, 0, value), toCall(opPush, 0, value), toCall(opPop), toCall(opPop), toCall(opScan)}[w>>9%5])
-			}
-		}
-	}
-	return out
 }

@@ -10,14 +10,13 @@ import (
 
 const atFind = 70
 
-// scanByTable is the document's table of the scans, of a hand at one of its rows that has no wrong Index. It stands in for their function, which is not there yet.
-func scanByTable(p impl.Plan, a []uint64, h impl.Hand) (impl.Done, bool) {
-	y := yardOf(p, a)
+// scanByTable is the document's table of the scans, of a hand at one of its rows that has no wrong Index; nothing is written by them. It stands in for their function, which is not there yet.
+func scanByTable(y yard, h impl.Hand) (impl.Done, bool) {
 	if h.At == atFind {
 		switch guard := y.index(guardPlaces(h.Which / 2)[h.Which%2]); {
 		case guard == h.Index:
 			h.Kept, h.Index, h.At = h.Kept+1, h.Index+1, atScan
-		case h.Which == 2*p.Procs-1:
+		case h.Which == 2*y.p.Procs-1:
 			h.Block, h.Index, h.At = h.Index, h.Index+1, atYield
 		default:
 			h.Which++
@@ -97,7 +96,7 @@ func (x *process) next(t *testing.T) (impl.Done, bool) {
 	if x.h.At != atScan && x.h.At != atFind {
 		t.Fatalf("no chapter tells what %+v does", x.h)
 	}
-	return scanByTable(x.p, x.words, x.h)
+	return scanByTable(x.yard, x.h)
 }
 
 // wantSwapAhead holds what must stand ahead of a swap that is told by a deed: what is intended bears the number that is put, the block has the head that goes with it, and is linked to what is behind it in its walk.
@@ -106,30 +105,57 @@ func (x *process) wantSwapAhead(t *testing.T, d impl.Done) {
 	if d.Deed == (impl.Deed{}) {
 		return
 	}
-	at, block := x.h.Addr, d.Deed.Item
+	at, block := int(x.h.Addr), d.Deed.Item
+	if d.Deed.Kind == deedEnq {
+		at = x.linkPlace(x.h.From)
+	}
 	intent, put := impl.Unpack(x.words[slotPlace(x.slot, 2)]), impl.Unpack(d.Arena[at])
 	if intent != (impl.Word{Kind: d.Deed.Kind, Index: block, Seq: put.Seq}) || put.Pid != x.slot || put.Kind != 0 || put.Seq != x.h.Last {
 		t.Fatalf("%+v was intended, and %+v is put, for %+v", intent, put, d.Deed)
 	}
-	link, behind, ahead := x.index(x.linkPlace(block)), put.Index, x.index(int(at))
-	if d.Deed.Kind == deedGive || d.Deed.Kind == deedPush {
+	link, behind, ahead := x.index(x.linkPlace(block)), put.Index, x.index(at)
+	if slices.Contains([]int64{deedGive, deedPush, deedEnq}, d.Deed.Kind) {
 		behind, ahead = ahead, behind
 	}
 	if link != behind || ahead != block {
-		t.Fatalf("%+v: from %d to %d, and block %d is linked to %d", d.Deed, x.index(int(at)), put.Index, block, link)
+		t.Fatalf("%+v: from %d to %d, and block %d is linked to %d", d.Deed, x.index(at), put.Index, block, link)
 	}
-	want := map[int64]uint64{deedPush: wordOf(kindNode, 0, 0, 0), deedPop: wordOf(kindNode, 0, 0, 0)}[d.Deed.Kind]
-	if head := x.words[x.heads[block-1]]; head != want {
-		t.Fatalf("%+v, and the head of block %d is %#x", d.Deed, block, head)
+	if d.Deed.Kind == deedTake || d.Deed.Kind == deedGive {
+		x.wantAhead(t, d.Deed, "head", x.words[x.heads[block-1]], 0)
+		return
 	}
-	if value := x.index(x.valuePlace(block)); want != 0 && value != d.Deed.Value {
-		t.Fatalf("%+v, and the value of block %d is %d", d.Deed, block, value)
+	x.wantNodeAhead(t, d.Deed, put.Index)
+}
+
+// wantNodeAhead holds the same of a node: where its value is, and that whoever looks at a block guards it.
+func (x *process) wantNodeAhead(t *testing.T, d impl.Deed, put int64) {
+	t.Helper()
+	bearer, guarded := d.Item, []int64{}
+	switch d.Kind {
+	case deedPop:
+		guarded = []int64{d.Item}
+	case deedDeq:
+		bearer, guarded = put, []int64{d.Item, put}
+	case deedEnq:
+		nodes, _ := x.lined()
+		last := nodes[len(nodes)-1]
+		guarded = []int64{last}
+		x.wantAhead(t, d, "last link", x.words[x.linkPlace(last)], 0)
 	}
-	if kept := x.words[slotPlace(x.slot, 3)]; d.Deed.Kind == deedPop && kept != uint64(d.Deed.Value)<<32 {
-		t.Fatalf("%+v, and the slot's value is %#x", d.Deed, kept)
+	x.wantAhead(t, d, "head", x.words[x.heads[d.Item-1]], wordOf(kindNode, 0, 0, 0))
+	x.wantAhead(t, d, "value", uint64(x.index(x.valuePlace(bearer))), uint64(d.Value))
+	for i, block := range guarded {
+		x.wantAhead(t, d, "guard", x.words[guardPlaces(x.slot)[i]], wordOf(0, 0, block, 0))
 	}
-	if guard := x.words[slotPlace(x.slot, 5)]; d.Deed.Kind == deedPop && guard != uint64(block)<<32 {
-		t.Fatalf("%+v, and the slot's guard is %#x", d.Deed, guard)
+	if d.Kind == deedPop || d.Kind == deedDeq {
+		x.wantAhead(t, d, "slot's value", x.words[slotPlace(x.slot, 3)], wordOf(0, 0, d.Value, 0))
+	}
+}
+
+func (x *process) wantAhead(t *testing.T, d impl.Deed, what string, got, want uint64) {
+	t.Helper()
+	if got != want {
+		t.Fatalf("%+v, and the %s ahead of it is %#x, not %#x", d, what, got, want)
 	}
 }
 
@@ -213,17 +239,18 @@ type member struct {
 	told []int64
 }
 
-// A crowd is over one arena. By the deeds that were told so far its stack has those values, the last one first.
+// A crowd is over one arena. By the deeds that were told so far its stack has those values, the last one first, and its line those, the first one first.
 type crowd struct {
-	words []uint64
-	all   []member
-	stack []int64
+	words       []uint64
+	all         []member
+	stack, line []int64
 }
 
 // crowdOf are processes at rest, one a list of tasks, each of which goes on from what its slot says.
 func crowdOf(y yard, tasks [][]task) crowd {
 	nodes, _ := y.walked(rootTop)
-	c := crowd{words: y.words, stack: y.values(nodes)}
+	line, _ := y.lined()
+	c := crowd{words: y.words, stack: y.values(nodes), line: y.values(line[1:])}
 	for who := range int64(len(tasks)) {
 		last := y.words[slotPlace(who, 2)] & topSeq
 		kept := len(blocksWith(y.p, y.words, kindRetired, who))
@@ -236,13 +263,13 @@ func crowdOf(y yard, tasks [][]task) crowd {
 func (c crowd) moved(t *testing.T, y yard, tasks [][]task, who int) (crowd, bool) {
 	t.Helper()
 	x := process{yard: yard{y.p, y.heads, c.words}, slot: int64(who), h: c.all[who].h}
-	told, stack := c.all[who].told, c.stack
+	told, then := c.all[who].told, c
 	switch {
 	case x.h.At != 0:
 		x.step(t)
-		x.wantNone(t, stack, c.all[who].h.At)
+		c.wantNone(t, &x, c.all[who].h.At)
 		for _, d := range x.deeds {
-			stack = stacked(t, stack, d)
+			then = then.behind(t, d)
 		}
 	case len(told) == len(tasks[who]):
 		return c, false
@@ -254,28 +281,31 @@ func (c crowd) moved(t *testing.T, y yard, tasks [][]task, who int) (crowd, bool
 		told = append(slices.Clone(told), x.h.Out)
 		x.h = impl.Resting(x.h)
 	}
-	then := crowd{x.words, slices.Clone(c.all), stack}
+	then.words, then.all = x.words, slices.Clone(c.all)
 	then.all[who] = member{x.h, told}
 	return then, true
 }
 
-// stacked is the stack behind a deed.
-func stacked(t *testing.T, stack []int64, d impl.Deed) []int64 {
+// behind has the stack and the line as they are behind a deed.
+func (c crowd) behind(t *testing.T, d impl.Deed) crowd {
 	t.Helper()
-	switch d.Kind {
-	case deedPush:
-		return append([]int64{d.Value}, stack...)
-	case deedPop:
-		if len(stack) == 0 || stack[0] != d.Value {
-			t.Fatalf("%+v, and the stack is %v", d, stack)
-		}
-		return stack[1:]
+	from := map[int64]*[]int64{deedPop: &c.stack, deedDeq: &c.line}[d.Kind]
+	switch {
+	case d.Kind == deedPush:
+		c.stack = append([]int64{d.Value}, c.stack...)
+	case d.Kind == deedEnq:
+		c.line = append(slices.Clone(c.line), d.Value)
+	case from == nil:
+	case len(*from) == 0 || (*from)[0] != d.Value:
+		t.Fatalf("%+v, and it is got from %v", d, *from)
+	default:
+		*from = (*from)[1:]
 	}
-	return stack
+	return c
 }
 
 // wantNone holds that there is none of what a process, having been at that place, is now told that there is none.
-func (x *process) wantNone(t *testing.T, stack []int64, was int64) {
+func (c crowd) wantNone(t *testing.T, x *process, was int64) {
 	t.Helper()
 	if x.h.At != atSay {
 		return
@@ -284,8 +314,8 @@ func (x *process) wantNone(t *testing.T, stack []int64, was int64) {
 	if x.h.Code == opAlloc {
 		class = x.h.A
 	}
-	if was == atPeek && len(stack) > 0 || was == atFree && len(x.free(t, class)) > 0 {
-		t.Fatalf("%+v is told that there is none; the stack is %v", x.h, stack)
+	if was == atPeek && len(c.stack) > 0 || was == atFirst && len(c.line) > 0 || was == atFree && len(x.free(t, class)) > 0 {
+		t.Fatalf("%+v is told that there is none; the stack is %v, the line %v", x.h, c.stack, c.line)
 	}
 }
 
@@ -311,26 +341,26 @@ func (c crowd) owned(tasks [][]task) []int64 {
 	return out
 }
 
-// wantOrder holds at any moment: no walk is broken, what is to be taken says that it is free, each block is in one place at most, the stack is as the deeds have it, and nobody is about to read from a block that is free.
+// wantOrder holds at any moment: no walk is broken, what is to be taken says that it is free, each block is in one place at most, the stack and the line are as the deeds have them, and nobody is about to read from a block that is free, or to link to one.
 func (c crowd) wantOrder(t *testing.T, y yard, tasks [][]task) {
 	t.Helper()
 	x := process{yard: yard{y.p, y.heads, c.words}}
 	free := append(slices.Clone(x.free(t, 0)), x.free(t, 1)...)
-	placed := slices.Concat(free, c.owned(tasks), x.nodes(t, c.stack))
+	placed := slices.Concat(free, c.owned(tasks), x.nodes(t, c.stack), x.line(t, c.line))
 	over := true
 	for who, m := range c.all {
 		over = over && m.h.At == 0 && len(m.told) == len(tasks[who])
 		placed = append(placed, blocksWith(y.p, c.words, kindRetired, int64(who))...)
-		block := map[int64]int64{atNext: m.h.Block, atLook: m.h.From}[m.h.At]
+		block := map[int64]int64{atNext: m.h.Block, atLook: m.h.From, atLast: m.h.From, atLinkUp: m.h.From, atFirst: m.h.Block}[m.h.At]
 		if block != 0 && (slices.Contains(free, block) || c.words[y.heads[block-1]] == 0) {
-			t.Fatalf("%+v is about to read from block %d, which is free", m.h, block)
+			t.Fatalf("%+v is about to come to block %d, which is free", m.h, block)
 		}
 	}
 	slices.Sort(placed)
 	if len(slices.Compact(slices.Clone(placed))) != len(placed) {
 		t.Fatalf("%v are in their places, of %+v", placed, c.all)
 	}
-	if over && !slices.Equal(placed, rising(2, y.blocks())) {
+	if over && !slices.Equal(placed, rising(1, y.blocks())) {
 		t.Fatalf("all is over, and %v are in their places", placed)
 	}
 }
@@ -359,4 +389,49 @@ func wantEveryWay(t *testing.T, y yard, begin crowd, tasks [][]task) int {
 		}
 	}
 	return len(met)
+}
+
+// wantMany has them take their turns in a mixed order till all is done, and tells how many moments there were.
+func wantMany(t *testing.T, y yard, tasks [][]task, seed uint64) int {
+	t.Helper()
+	c, moments := crowdOf(y, tasks), 0
+	for i, moved := uint64(0), true; moved; i++ {
+		moved = false
+		for _, turn := range mixedWords(64, seed*1000+i) {
+			then, is := c.moved(t, y, tasks, int(turn>>7%uint64(y.p.Procs)))
+			if !is {
+				continue
+			}
+			c, moved = then, true
+			moments++
+			c.wantOrder(t, y, tasks)
+		}
+	}
+	for who, m := range c.all {
+		if len(m.told) != len(tasks[who]) || m.h.At != 0 {
+			t.Fatalf("%+v: slot %d is not at its end", y.p, who)
+		}
+	}
+	return moments
+}
+
+// mixedTasks are of each slot as many calls, of these codes; a block that is taken is given back a few calls behind.
+func mixedTasks(p impl.Plan, seed uint64, codes ...int64) [][]task {
+	out := make([][]task, p.Procs)
+	for slot := range out {
+		for i, w := range mixedWords(60, seed*77+uint64(slot)) {
+			code := codes[w>>9%uint64(len(codes))]
+			switch {
+			case i%12 == 2:
+				out[slot] = append(out[slot], toTake(int64(w>>9%2)))
+			case i%12 == 7:
+				out[slot] = append(out[slot], toGive(i-5))
+			case code == opPush || code == opEnq:
+				out[slot] = append(out[slot], toCall(code, 0, int64(w>>20&topIndex)))
+			default:
+				out[slot] = append(out[slot], toCall(code))
+			}
+		}
+	}
+	return out
 }

@@ -25,7 +25,8 @@ var (
 	installing = chapter{"InstallStep", atOpen, atSwap, impl.InstallStep, stepByTable, doableHand, stepArena}
 	pooling    = chapter{"PoolStep", atFree, atChain, impl.PoolStep, poolByTable, poolHand, poolArena}
 	stacking   = chapter{"StackStep", atAim, atRetire, impl.StackStep, stackByTable, stackHand, stackArena}
-	chapters   = []chapter{installing, pooling, stacking}
+	queueing   = chapter{"QueueStep", atClean, atPull, impl.QueueStep, queueByTable, queueHand, queueArena}
+	chapters   = []chapter{installing, pooling, stacking, queueing}
 )
 
 func (c chapter) wantStep(t *testing.T, what string, p impl.Plan, a []uint64, me int64, h impl.Hand, want impl.Done, is bool) {
@@ -123,6 +124,7 @@ func TestForAnotherSlot(t *testing.T) {
 
 // One field at a time is another one: it is carried on, and changes what its row names and no more.
 func TestFieldsOneAtATime(t *testing.T) {
+	t.Parallel()
 	p := usualPlan
 	eachRow(func(c chapter, at int64) {
 		for _, code := range []int64{impl.OpPush, impl.OpAlloc, impl.OpFree, impl.OpWrite, impl.OpScan, impl.OpAdopt} {
@@ -157,6 +159,7 @@ func eachOtherField(p impl.Plan, h impl.Hand, f func(name string, one impl.Hand)
 
 // Any right hands over any words: as the table has it, where something is done and where nothing is.
 func TestMixedSteps(t *testing.T) {
+	t.Parallel()
 	for _, c := range chapters {
 		done, not := 0, 0
 		for _, p := range somePlans {
