@@ -99,19 +99,26 @@ func (x *process) next(t *testing.T) (impl.Done, bool) {
 	return scanByTable(x.yard, x.h)
 }
 
-// wantSwapAhead holds what must stand ahead of a swap that is told by a deed: what is intended bears the number that is put, the block has the head that goes with it, and is linked to what is behind it in its walk.
+// wantSwapAhead holds what must stand ahead of a swap that is told by a deed: what is intended bears the number that is put, the block has the head that goes with it, and is linked to what is behind it in its walk; of a cell see wantCellAhead.
 func (x *process) wantSwapAhead(t *testing.T, d impl.Done) {
 	t.Helper()
 	if d.Deed == (impl.Deed{}) {
 		return
 	}
 	at, block := int(x.h.Addr), d.Deed.Item
-	if d.Deed.Kind == deedEnq {
+	switch d.Deed.Kind {
+	case deedEnq:
 		at = x.linkPlace(x.h.From)
+	case deedCas:
+		block = 0
 	}
 	intent, put := impl.Unpack(x.words[slotPlace(x.slot, 2)]), impl.Unpack(d.Arena[at])
 	if intent != (impl.Word{Kind: d.Deed.Kind, Index: block, Seq: put.Seq}) || put.Pid != x.slot || put.Kind != 0 || put.Seq != x.h.Last {
 		t.Fatalf("%+v was intended, and %+v is put, for %+v", intent, put, d.Deed)
+	}
+	if d.Deed.Kind == deedCas {
+		x.wantCellAhead(t, d.Deed, put.Index)
+		return
 	}
 	link, behind, ahead := x.index(x.linkPlace(block)), put.Index, x.index(at)
 	if slices.Contains([]int64{deedGive, deedPush, deedEnq}, d.Deed.Kind) {
@@ -150,6 +157,18 @@ func (x *process) wantNodeAhead(t *testing.T, d impl.Deed, put int64) {
 	if d.Kind == deedPop || d.Kind == deedDeq {
 		x.wantAhead(t, d, "slot's value", x.words[slotPlace(x.slot, 3)], wordOf(0, 0, d.Value, 0))
 	}
+}
+
+// wantCellAhead holds that it is the cell that was called which is changed, from what it should be and to what was called, and that the note about who was there was raised.
+func (x *process) wantCellAhead(t *testing.T, d impl.Deed, put int64) {
+	t.Helper()
+	if d.Item != x.h.A || d.Value != x.h.C || put != x.h.C || x.h.Addr != int64(x.rootPlace(rootCell+int(x.h.A))) {
+		t.Fatalf("%+v of %+v, and %d is put", d, x.h, put)
+	}
+	seen := x.words[x.h.Addr]
+	x.wantAhead(t, d, "cell", uint64(seen>>32&65535), uint64(x.h.B))
+	note := x.words[notePlace(x.p, int64(seen>>48&255), x.slot)]
+	x.wantAhead(t, d, "note", max(note, seen&topSeq), note)
 }
 
 func (x *process) wantAhead(t *testing.T, d impl.Deed, what string, got, want uint64) {
@@ -239,18 +258,18 @@ type member struct {
 	told []int64
 }
 
-// A crowd is over one arena. By the deeds that were told so far its stack has those values, the last one first, and its line those, the first one first.
+// A crowd is over one arena. By the deeds that were told so far its stack has those values, the last one first, its line those, the first one first, and its cells are those.
 type crowd struct {
-	words       []uint64
-	all         []member
-	stack, line []int64
+	words              []uint64
+	all                []member
+	stack, line, cells []int64
 }
 
 // crowdOf are processes at rest, one a list of tasks, each of which goes on from what its slot says.
 func crowdOf(y yard, tasks [][]task) crowd {
 	nodes, _ := y.walked(rootTop)
 	line, _ := y.lined()
-	c := crowd{words: y.words, stack: y.values(nodes), line: y.values(line[1:])}
+	c := crowd{words: y.words, stack: y.values(nodes), line: y.values(line[1:]), cells: y.cells()}
 	for who := range int64(len(tasks)) {
 		last := y.words[slotPlace(who, 2)] & topSeq
 		kept := len(blocksWith(y.p, y.words, kindRetired, who))
@@ -267,7 +286,7 @@ func (c crowd) moved(t *testing.T, y yard, tasks [][]task, who int) (crowd, bool
 	switch {
 	case x.h.At != 0:
 		x.step(t)
-		c.wantNone(t, &x, c.all[who].h.At)
+		c.wantSeen(t, &x, c.all[who].h.At)
 		for _, d := range x.deeds {
 			then = then.behind(t, d)
 		}
@@ -286,7 +305,7 @@ func (c crowd) moved(t *testing.T, y yard, tasks [][]task, who int) (crowd, bool
 	return then, true
 }
 
-// behind has the stack and the line as they are behind a deed.
+// behind has the stack, the line and the cells as they are behind a deed.
 func (c crowd) behind(t *testing.T, d impl.Deed) crowd {
 	t.Helper()
 	from := map[int64]*[]int64{deedPop: &c.stack, deedDeq: &c.line}[d.Kind]
@@ -295,6 +314,9 @@ func (c crowd) behind(t *testing.T, d impl.Deed) crowd {
 		c.stack = append([]int64{d.Value}, c.stack...)
 	case d.Kind == deedEnq:
 		c.line = append(slices.Clone(c.line), d.Value)
+	case d.Kind == deedCas:
+		c.cells = slices.Clone(c.cells)
+		c.cells[d.Item] = d.Value
 	case from == nil:
 	case len(*from) == 0 || (*from)[0] != d.Value:
 		t.Fatalf("%+v, and it is got from %v", d, *from)
@@ -304,8 +326,8 @@ func (c crowd) behind(t *testing.T, d impl.Deed) crowd {
 	return c
 }
 
-// wantNone holds that there is none of what a process, having been at that place, is now told that there is none.
-func (c crowd) wantNone(t *testing.T, x *process, was int64) {
+// wantSeen holds what a process that was at that place is now told of it: that there is none of what it would get, what a cell is, or what a call was told.
+func (c crowd) wantSeen(t *testing.T, x *process, was int64) {
 	t.Helper()
 	if x.h.At != atSay {
 		return
@@ -316,6 +338,13 @@ func (c crowd) wantNone(t *testing.T, x *process, was int64) {
 	}
 	if was == atPeek && len(c.stack) > 0 || was == atFirst && len(c.line) > 0 || was == atFree && len(x.free(t, class)) > 0 {
 		t.Fatalf("%+v is told that there is none; the stack is %v, the line %v", x.h, c.stack, c.line)
+	}
+	if was == atCell && (x.h.Out != c.cells[x.h.A] || x.h.Code == opCas && x.h.Out == x.h.B) {
+		t.Fatalf("%+v is told what the cell is; the cells are %v", x.h, c.cells)
+	}
+	if was == atAsk {
+		reply, out := x.resultOf(x.h.A, x.h.B)
+		x.wantTold(t, x.h.Reply, x.h.Out, reply, out)
 	}
 }
 
@@ -341,12 +370,13 @@ func (c crowd) owned(tasks [][]task) []int64 {
 	return out
 }
 
-// wantOrder holds at any moment: no walk is broken, what is to be taken says that it is free, each block is in one place at most, the stack and the line are as the deeds have them, and nobody is about to read from a block that is free, or to link to one.
+// wantOrder holds at any moment: no walk is broken, what is to be taken says that it is free, each block is in one place at most, the stack, the line and the cells are as the deeds have them, and nobody is about to read from a block that is free, or to link to one.
 func (c crowd) wantOrder(t *testing.T, y yard, tasks [][]task) {
 	t.Helper()
 	x := process{yard: yard{y.p, y.heads, c.words}}
 	free := append(slices.Clone(x.free(t, 0)), x.free(t, 1)...)
 	placed := slices.Concat(free, c.owned(tasks), x.nodes(t, c.stack), x.line(t, c.line))
+	x.wantCells(t, c.cells)
 	over := true
 	for who, m := range c.all {
 		over = over && m.h.At == 0 && len(m.told) == len(tasks[who])
@@ -415,7 +445,7 @@ func wantMany(t *testing.T, y yard, tasks [][]task, seed uint64) int {
 	return moments
 }
 
-// mixedTasks are of each slot as many calls, of these codes; a block that is taken is given back a few calls behind.
+// mixedTasks are of each slot as many calls, of these codes; the cells are few, as are the numbers that they have; a block that is taken is given back a few calls behind.
 func mixedTasks(p impl.Plan, seed uint64, codes ...int64) [][]task {
 	out := make([][]task, p.Procs)
 	for slot := range out {
@@ -428,6 +458,12 @@ func mixedTasks(p impl.Plan, seed uint64, codes ...int64) [][]task {
 				out[slot] = append(out[slot], toGive(i-5))
 			case code == opPush || code == opEnq:
 				out[slot] = append(out[slot], toCall(code, 0, int64(w>>20&topIndex)))
+			case code == opCas:
+				out[slot] = append(out[slot], toCall(code, int64(w>>20%uint64(min(2, p.Cells))), int64(w>>24%3), int64(w>>30%3)))
+			case code == opSee:
+				out[slot] = append(out[slot], toCall(code, int64(w>>20%uint64(min(2, p.Cells)))))
+			case code == opAsk:
+				out[slot] = append(out[slot], toCall(code, int64(w>>20%uint64(p.Procs)), 1+int64(w>>30%120)))
 			default:
 				out[slot] = append(out[slot], toCall(code))
 			}

@@ -26,7 +26,8 @@ var (
 	pooling    = chapter{"PoolStep", atFree, atChain, impl.PoolStep, poolByTable, poolHand, poolArena}
 	stacking   = chapter{"StackStep", atAim, atRetire, impl.StackStep, stackByTable, stackHand, stackArena}
 	queueing   = chapter{"QueueStep", atClean, atPull, impl.QueueStep, queueByTable, queueHand, queueArena}
-	chapters   = []chapter{installing, pooling, stacking, queueing}
+	celling    = chapter{"CellStep", atCell, atAsk, impl.CellStep, cellByTable, cellHand, cellArena}
+	chapters   = []chapter{installing, pooling, stacking, queueing, celling}
 )
 
 func (c chapter) wantStep(t *testing.T, what string, p impl.Plan, a []uint64, me int64, h impl.Hand, want impl.Done, is bool) {
